@@ -1,0 +1,52 @@
+package reading
+
+import (
+	"urls/api"
+	"urls/hosts"
+	"urls/parts"
+	"urls/paths"
+	"urls/schemes"
+)
+
+// readFile reads what is left of a file's text (P11).
+func readFile(u parts.URL, left string) (parts.URL, api.Errno) {
+	u.HasHost = true
+	switch schemes.CountSlashes(left, true) {
+	case 0:
+		u.Segments = paths.Read(left, u.Scheme)
+	case 1:
+		u.Segments = paths.Read(left[1:], u.Scheme)
+	default:
+		return readFileHost(u, left[2:])
+	}
+	return u, api.OK
+}
+
+// readFileHost reads what is behind a file's two slashes.
+func readFileHost(u parts.URL, text string) (parts.URL, api.Errno) {
+	host, path, _ := schemes.CutSlash(text, true)
+	if paths.Drive(host) {
+		// A drive there was meant for the path.
+		u.Segments = paths.Read(text, u.Scheme)
+		return u, api.OK
+	}
+	written, err := fileHost(host)
+	if err != api.OK {
+		return parts.URL{}, err
+	}
+	u.Host = written
+	u.Segments = paths.Read(path, u.Scheme)
+	return u, api.OK
+}
+
+// fileHost reads a file's host: it may be empty, and localhost is.
+func fileHost(text string) (string, api.Errno) {
+	if text == "" {
+		return "", api.OK
+	}
+	written, err := hosts.Read(text, true)
+	if err != api.OK || written == "localhost" {
+		return "", err
+	}
+	return written, api.OK
+}

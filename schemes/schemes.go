@@ -1,0 +1,49 @@
+// Package schemes: what hangs on a URL's scheme.
+package schemes
+
+// File is the special scheme that has rules of its own.
+const File = "file"
+
+// Special tells whether a scheme, in small letters, is special.
+func Special(scheme string) bool {
+	_, ported := OwnPort(scheme)
+	return ported || scheme == File
+}
+
+// OwnPort tells the port that a special scheme has by itself, if it has one.
+func OwnPort(scheme string) (int, bool) {
+	switch scheme {
+	case "http", "ws":
+		return 80, true
+	case "https", "wss":
+		return 443, true
+	case "ftp":
+		return 21, true
+	}
+	return 0, false
+}
+
+// Slash tells whether c is a slash where the scheme is special or is not.
+func Slash(c byte, special bool) bool {
+	return c == '/' || special && c == '\\'
+}
+
+// CutSlash answers what is ahead of the first slash and what is behind it, and
+// whether there is one; if there is none, all of s is ahead.
+func CutSlash(s string, special bool) (string, string, bool) {
+	for i := 0; i < len(s); i++ {
+		if Slash(s[i], special) {
+			return s[:i], s[i+1:], true
+		}
+	}
+	return s, "", false
+}
+
+// CountSlashes tells how many slashes s begins with.
+func CountSlashes(s string, special bool) int {
+	n := 0
+	for n < len(s) && Slash(s[n], special) {
+		n++
+	}
+	return n
+}

