@@ -1,4 +1,5 @@
-// Package paths reads paths (P9) and drives.
+// Package paths reads paths, alone and against a base's (P7, P9, P11), and
+// drives.
 package paths
 
 import (
@@ -12,25 +13,73 @@ func Drive(s string) bool {
 	return len(s) == 2 && ascii.Letter(s[0]) && (s[1] == ':' || s[1] == '|')
 }
 
+// DriveAhead tells whether the first segment of a file's text is a drive.
+func DriveAhead(text string) bool {
+	first, _, _ := schemes.CutSlash(text, true)
+	return Drive(first)
+}
+
 // A path while it is read. The slice is the path's own: nothing else holds it.
 type path struct {
 	file     bool
+	special  bool
 	segments []string
 }
 
 // Read answers the segments of a text in a URL of the scheme.
 func Read(text string, scheme string) []string {
-	special := schemes.Special(scheme)
+	p := begin(nil, scheme)
+	p.follow(text)
+	return p.segments
+}
+
+// Beside answers the segments of a text that stands in the place of the
+// base's last segment.
+func Beside(base []string, text string, scheme string) []string {
+	p := begin(base, scheme)
+	p.shorten()
+	p.follow(text)
+	return p.segments
+}
+
+// OnDrive answers the segments of a file's text; they stand on the base's
+// drive, if the base has one and the text none.
+func OnDrive(base []string, text string) []string {
+	if len(base) == 0 || !written(base[0]) || DriveAhead(text) {
+		return Read(text, schemes.File)
+	}
+	p := begin(base[:1], schemes.File)
+	p.follow(text)
+	return p.segments
+}
+
+// Copy answers a list of its own with the same segments.
+func Copy(segments []string) []string {
+	own := make([]string, len(segments))
+	for i := 0; i < len(own); i++ {
+		own[i] = segments[i]
+	}
+	return own
+}
+
+// begin answers a path that has these segments so far.
+func begin(segments []string, scheme string) path {
 	p := path{file: scheme == schemes.File}
+	p.special = schemes.Special(scheme)
+	p.segments = Copy(segments)
+	return p
+}
+
+// follow puts the segments of a text behind those of the path.
+func (p *path) follow(text string) {
 	rest := text
 	more := true
 	for more {
-		segment, behind, found := schemes.CutSlash(rest, special)
+		segment, behind, found := schemes.CutSlash(rest, p.special)
 		p.take(segment, !found)
 		rest = behind
 		more = found
 	}
-	return p.segments
 }
 
 // take does what one segment asks for; last, if it is the text's last.

@@ -51,3 +51,69 @@ func TestP9Drives(t *testing.T) {
 		}
 	}
 }
+
+func TestP7Beside(t *testing.T) {
+	for _, c := range []struct {
+		scheme string
+		base   []string
+		text   string
+		want   []string
+	}{
+		{"http", []string{"a", "b"}, "x", []string{"a", "x"}}, {"http", []string{"a", ""}, "x", []string{"a", "x"}}, {"a", nil, "x", []string{"x"}}, {"a", []string{"a", "b"}, "..", []string{""}}, {"a", []string{"a", "b"}, "", []string{"a", ""}}, {"a", []string{"C:"}, "x", []string{"x"}},
+		{"file", []string{"C:"}, "x", []string{"C:", "x"}}, {"file", []string{"C|"}, "x", []string{"x"}}, {"file", []string{"C:", "y"}, "..", []string{"C:", ""}}, {"file", []string{"y"}, "D|", []string{"D:"}}, {"file", []string{"C:"}, "D|", []string{"C:", "D|"}},
+	} {
+		got := Beside(c.base, c.text, c.scheme)
+		if !slices.Equal(got, c.want) {
+			t.Errorf("P7: %q beside %q of %s is %q, want %q", c.text, c.base, c.scheme, got, c.want)
+		}
+	}
+}
+
+func TestP11OnDrive(t *testing.T) {
+	for _, c := range []struct {
+		base []string
+		text string
+		want []string
+	}{
+		{[]string{"C:", "y"}, "x", []string{"C:", "x"}}, {[]string{"C:"}, "", []string{"C:", ""}}, {[]string{"C:", "y"}, "..", []string{"C:", ""}}, {[]string{"C:", "y"}, "D|/x", []string{"D:", "x"}}, {[]string{"C:"}, "D:", []string{"D:"}}, {[]string{"C:"}, "D:x", []string{"C:", "D:x"}},
+		{[]string{"C|", "y"}, "x", []string{"x"}}, {[]string{"y", "C:"}, "x", []string{"x"}}, {[]string{"", "C:"}, "x", []string{"x"}}, {nil, "x", []string{"x"}}, {nil, "D|", []string{"D:"}},
+	} {
+		if got := OnDrive(c.base, c.text); !slices.Equal(got, c.want) {
+			t.Errorf("P11: %q on %q is %q, want %q", c.text, c.base, got, c.want)
+		}
+	}
+}
+
+func TestDriveAhead(t *testing.T) {
+	for _, s := range []string{"C:", "c|", "C:/", `C|\x`, "C:/x/y"} {
+		if !DriveAhead(s) {
+			t.Errorf("%q begins with a drive", s)
+		}
+	}
+	for _, s := range []string{"", "C", "C:x", "C|x/", "/C:", "x/C:", "1:/", "C%7C/"} {
+		if DriveAhead(s) {
+			t.Errorf("%q begins with no drive", s)
+		}
+	}
+}
+
+// A base's segments stay as they are: they are another URL's.
+func TestP1BaseStays(t *testing.T) {
+	room := []string{"C:", "b", "c", "d"}
+	base := room[:2]
+	beside := Beside(base, "../x/y/z", "http")
+	drive := OnDrive(base, "x/y/z")
+	copied := Copy(base)
+	for i := range beside {
+		beside[i] = "!"
+	}
+	for i := range drive {
+		drive[i] = "!"
+	}
+	for i := range copied {
+		copied[i] = "!"
+	}
+	if !slices.Equal(room, []string{"C:", "b", "c", "d"}) {
+		t.Errorf("P1: the base is %q", room)
+	}
+}

@@ -9,17 +9,26 @@ import (
 )
 
 // readFile reads what is left of a file's text (P11).
-func readFile(u parts.URL, left string) (parts.URL, api.Errno) {
+func readFile(u parts.URL, left string, base parts.URL) (parts.URL, api.Errno) {
 	u.HasHost = true
-	switch schemes.CountSlashes(left, true) {
-	case 0:
-		u.Segments = paths.Read(left, u.Scheme)
-	case 1:
-		u.Segments = paths.Read(left[1:], u.Scheme)
-	default:
+	slashes := schemes.CountSlashes(left, true)
+	if slashes > 1 {
 		return readFileHost(u, left[2:])
 	}
-	return u, api.OK
+	if base.Scheme != schemes.File {
+		u.Segments = paths.Read(left[slashes:], u.Scheme)
+		return u, api.OK
+	}
+	u.Host = base.Host
+	if slashes == 1 {
+		u.Segments = paths.OnDrive(base.Segments, left[1:])
+		return u, api.OK
+	}
+	if paths.DriveAhead(left) {
+		u.Segments = paths.Read(left, u.Scheme)
+		return u, api.OK
+	}
+	return beside(u, left, base), api.OK
 }
 
 // readFileHost reads what is behind a file's two slashes.

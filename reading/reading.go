@@ -1,4 +1,4 @@
-// Package reading reads texts as URLs (P5, P6, P8, P11).
+// Package reading reads texts as URLs (P5 to P8, P11).
 package reading
 
 import (
@@ -13,20 +13,54 @@ import (
 
 // Text reads a text of any length without a base.
 func Text(s string) (parts.URL, api.Errno) {
+	return Against(s, parts.URL{})
+}
+
+// Against reads a text of any length against a base. A base without a scheme,
+// which no URL is that was read, is none.
+func Against(s string, base parts.URL) (parts.URL, api.Errno) {
 	clean := points.Clean(s)
 	trimmed := trim(clean)
 	whole := withoutBreaks(trimmed)
 	ahead, fragment, hasFragment := ascii.Cut(whole, '#')
+	read, err := readAhead(ahead, hasFragment, base)
+	if err != api.OK {
+		return parts.URL{}, err
+	}
+	read.HasFragment = hasFragment
+	read.Fragment = percent.Encode(fragment, percent.Fragment)
+	return read, api.OK
+}
+
+// readAhead reads what is ahead of the fragment.
+func readAhead(ahead string, hasFragment bool, base parts.URL) (parts.URL, api.Errno) {
 	scheme, rest, found := cutScheme(ahead)
+	if !found && base.Opaque {
+		return againstOpaque(rest, hasFragment, base)
+	}
 	if !found {
+		scheme = base.Scheme
+	}
+	if scheme == "" {
 		return parts.URL{}, api.ErrFail
 	}
 	left, query, hasQuery := ascii.Cut(rest, '?')
-	u := parts.URL{Scheme: scheme, HasQuery: hasQuery, HasFragment: hasFragment}
+	u := parts.URL{Scheme: scheme, HasQuery: hasQuery}
 	set := querySet(scheme)
 	u.Query = percent.Encode(query, set)
-	u.Fragment = percent.Encode(fragment, percent.Fragment)
-	return withScheme(u, left)
+	if found {
+		return withScheme(u, left, base)
+	}
+	return withoutScheme(u, left, base)
+}
+
+// againstOpaque reads a text without a scheme: an opaque path has no segments
+// that it could follow, so that it can bring nothing but a fragment.
+func againstOpaque(rest string, hasFragment bool, base parts.URL) (parts.URL, api.Errno) {
+	if rest != "" || !hasFragment {
+		return parts.URL{}, api.ErrFail
+	}
+	return base, api.OK
 }
 
 // trim takes blanks and controls away at both ends.
@@ -54,12 +88,12 @@ func withoutBreaks(s string) string {
 	return string(out)
 }
 
-// cutScheme answers the scheme in small letters and what is behind its colon,
-// if there is a scheme.
+// cutScheme answers the scheme in small letters and what is behind its colon;
+// if there is no scheme, the rest is all of s.
 func cutScheme(s string) (string, string, bool) {
 	name, rest, colon := ascii.Cut(s, ':')
 	if !colon || !isScheme(name) {
-		return "", "", false
+		return "", s, false
 	}
 	return ascii.Lower(name), rest, true
 }
@@ -85,14 +119,13 @@ func querySet(scheme string) percent.Set {
 	return percent.Query
 }
 
-// withScheme reads what is left between the scheme and the query.
-func withScheme(u parts.URL, left string) (parts.URL, api.Errno) {
+// withScheme reads what is left between the scheme and the query (P6).
+func withScheme(u parts.URL, left string, base parts.URL) (parts.URL, api.Errno) {
 	if u.Scheme == schemes.File {
-		return readFile(u, left)
+		return readFile(u, left, base)
 	}
 	if schemes.Special(u.Scheme) {
-		n := schemes.CountSlashes(left, true)
-		return readAuthority(u, left[n:])
+		return withSpecial(u, left, base)
 	}
 	switch schemes.CountSlashes(left, false) {
 	case 0:
@@ -104,4 +137,14 @@ func withScheme(u parts.URL, left string) (parts.URL, api.Errno) {
 		return readAuthority(u, left[2:])
 	}
 	return u, api.OK
+}
+
+// withSpecial reads what is left behind a special scheme. Only two slashes of
+// the form / keep it from being read against a base of that scheme.
+func withSpecial(u parts.URL, left string, base parts.URL) (parts.URL, api.Errno) {
+	if base.Scheme == u.Scheme && schemes.CountSlashes(left, false) < 2 {
+		return withoutScheme(u, left, base)
+	}
+	n := schemes.CountSlashes(left, true)
+	return readAuthority(u, left[n:])
 }

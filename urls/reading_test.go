@@ -11,8 +11,14 @@ import (
 func href(t *testing.T, s string) string {
 	t.Helper()
 	x, e := urls.Parse(s, "", false)
+	return told(t, x, e, s)
+}
+
+// told tells in one text what Parse answered.
+func told(t *testing.T, x *urls.URL, e api.Errno, asked ...string) string {
+	t.Helper()
 	if (x == nil) != (e != api.OK) {
-		t.Fatalf("P1: Parse(%q): a URL: %v, error %d", s, x != nil, e)
+		t.Fatalf("P1: Parse of %q: a URL: %v, error %d", asked, x != nil, e)
 	}
 	switch e {
 	case api.OK:
@@ -22,7 +28,7 @@ func href(t *testing.T, s string) string {
 	case api.Unsupported:
 		return "?"
 	}
-	t.Fatalf("P4: Parse(%q): error %d", s, e)
+	t.Fatalf("P4: Parse of %q: error %d", asked, e)
 	return ""
 }
 

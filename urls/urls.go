@@ -17,24 +17,27 @@ func Parse(s string, base string, based bool) (*URL, api.Errno) {
 	if len(s) > api.MaxIn || based && len(base) > api.MaxIn {
 		return nil, api.ErrLong
 	}
-	if based {
-		return nil, baseError(base)
+	ground, err := readBase(base, based)
+	if err != api.OK {
+		return nil, err
 	}
-	read, err := reading.Text(s)
+	read, err := reading.Against(s, ground)
 	if err != api.OK {
 		return nil, err
 	}
 	return &URL{parts: read}, api.OK
 }
 
-// baseError tells what is wrong with a base. Nothing is read against a base
-// yet, so that a good one is Unsupported.
-func baseError(base string) api.Errno {
-	_, err := reading.Text(base)
-	if err == api.ErrFail {
-		return api.ErrBase
+// readBase reads the base alone; if there is none, it is the empty URL.
+func readBase(base string, based bool) (parts.URL, api.Errno) {
+	if !based {
+		return parts.URL{}, api.OK
 	}
-	return api.Unsupported
+	read, err := reading.Text(base)
+	if err == api.ErrFail {
+		return parts.URL{}, api.ErrBase
+	}
+	return read, err
 }
 
 // Get tells all parts (P13).
