@@ -61,3 +61,11 @@ func TestCuts(t *testing.T) {
 		t.Errorf("Split of the empty text: %q", got)
 	}
 }
+
+func TestWithoutBreaks(t *testing.T) {
+	for _, c := range [][2]string{{"", ""}, {"\t\r\n", ""}, {"\ta b\n\nc\r", "a bc"}, {" \x00\x08\x0b\x0c\x0e\xff ", " \x00\x08\x0b\x0c\x0e\xff "}} {
+		if got := WithoutBreaks(c[0]); got != c[1] {
+			t.Errorf("WithoutBreaks(%q) is %q", c[0], got)
+		}
+	}
+}

@@ -45,3 +45,15 @@ func Split(s string, c byte) []string {
 	}
 	return list
 }
+
+// WithoutBreaks answers s without its tabs, line feeds and carriage returns.
+func WithoutBreaks(s string) string {
+	out := []byte{}
+	for i := 0; i < len(s); i++ {
+		c := s[i]
+		if c != '\t' && c != '\n' && c != '\r' {
+			out = append(out, c)
+		}
+	}
+	return string(out)
+}

@@ -22,6 +22,39 @@ func Read(text string, special bool) (string, api.Errno) {
 	return readOther(text)
 }
 
+// ReadFile answers a file's host as it is written (P11): it may be empty, and
+// localhost is.
+func ReadFile(text string) (string, api.Errno) {
+	if text == "" {
+		return "", api.OK
+	}
+	written, err := Read(text, true)
+	if err != api.OK || written == "localhost" {
+		return "", err
+	}
+	return written, api.OK
+}
+
+// CutPort answers what is ahead of the first colon that is in no brackets and
+// what is behind it, and whether there is one; if there is none, all of place
+// is ahead.
+func CutPort(place string) (string, string, bool) {
+	inside := false
+	for i := 0; i < len(place); i++ {
+		switch place[i] {
+		case '[':
+			inside = true
+		case ']':
+			inside = false
+		case ':':
+			if !inside {
+				return place[:i], place[i+1:], true
+			}
+		}
+	}
+	return place, "", false
+}
+
 func readBrackets(text string) (string, api.Errno) {
 	if len(text) < 2 || text[len(text)-1] != ']' {
 		return "", api.ErrFail

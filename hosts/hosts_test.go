@@ -6,21 +6,27 @@ import (
 	"urls/api"
 )
 
+// told tells in one text what was answered for a host.
+func told(t *testing.T, asked string, text string, e api.Errno) string {
+	t.Helper()
+	if e != api.OK && text != "" {
+		t.Errorf("P10: %q: %q beside error %d", asked, text, e)
+	}
+	switch e {
+	case api.ErrFail:
+		return "!"
+	case api.Unsupported:
+		return "?"
+	}
+	return text
+}
+
 // check reads hosts; "!" wants ErrFail, "?" wants Unsupported.
 func check(t *testing.T, special bool, list [][2]string) {
 	t.Helper()
 	for _, c := range list {
-		got, e := Read(c[0], special)
-		if e != api.OK && got != "" {
-			t.Errorf("P10: %q: %q beside error %d", c[0], got, e)
-		}
-		switch e {
-		case api.ErrFail:
-			got = "!"
-		case api.Unsupported:
-			got = "?"
-		}
-		if got != c[1] {
+		text, e := Read(c[0], special)
+		if got := told(t, c[0], text, e); got != c[1] {
 			t.Errorf("P10: %q (special: %v) is %q, want %q", c[0], special, got, c[1])
 		}
 	}
@@ -91,6 +97,33 @@ func TestP10Other(t *testing.T) {
 		_, e := Read("x"+c+"y", false)
 		if (e == api.ErrFail) != bad || (e == api.OK) == bad {
 			t.Errorf("P10: %q in another scheme's host: %d", c, e)
+		}
+	}
+}
+
+func TestP11ReadFile(t *testing.T) {
+	for _, c := range [][2]string{
+		{"", ""}, {"localhost", ""}, {"LocalHost", ""}, {"l%6fcalhost", ""}, {"localhost.", "localhost."}, {"localhos", "localhos"}, {"G", "g"}, {"1", "0.0.0.1"}, {"[::]", "[::]"},
+		{"C:", "!"}, {"a b", "!"}, {"g:1", "!"}, {"%", "!"}, {"é", "?"}, {"xn--localhost", "?"},
+	} {
+		text, e := ReadFile(c[0])
+		if got := told(t, c[0], text, e); got != c[1] {
+			t.Errorf("P11: the file's host %q is %q, want %q", c[0], got, c[1])
+		}
+	}
+}
+
+func TestP8CutPort(t *testing.T) {
+	for _, c := range []struct {
+		place, host, port string
+		colon             bool
+	}{
+		{"h:1", "h", "1", true}, {"h:", "h", "", true}, {":1", "", "1", true}, {"h:1:2", "h", "1:2", true}, {"[::1]:9", "[::1]", "9", true}, {"]:9", "]", "9", true}, {"a[:]:[:", "a[:]", "[:", true}, {"[[:]:1", "[[:]", "1", true},
+		{"", "", "", false}, {"h", "h", "", false}, {"[::1]", "[::1]", "", false}, {"[::1:9", "[::1:9", "", false},
+	} {
+		host, port, colon := CutPort(c.place)
+		if host != c.host || port != c.port || colon != c.colon {
+			t.Errorf("P8: CutPort(%q) is %q, %q, %v", c.place, host, port, colon)
 		}
 	}
 }

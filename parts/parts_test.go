@@ -43,3 +43,42 @@ func TestP13Getters(t *testing.T) {
 		t.Errorf("P13: %q, want %q", got, want)
 	}
 }
+
+func TestP8AtPort(t *testing.T) {
+	for _, c := range []struct {
+		scheme string
+		port   int
+		want   string
+	}{
+		{"http", 80, ""}, {"http", 443, "443"}, {"https", 443, ""}, {"ftp", 21, ""}, {"a", 80, "80"}, {"a", 0, "0"}, {"file", 0, "0"},
+	} {
+		before := URL{Scheme: c.scheme, HasHost: true, Host: "h", HasPort: true, Port: 9}
+		u := before.AtPort(c.port)
+		if u.PortText() != c.want || u.HasPort != (c.want != "") || before.Port != 9 {
+			t.Errorf("P8: the port %d of %s is %q", c.port, c.scheme, u.PortText())
+		}
+		if gone := u.WithoutPort(); gone.HasPort || gone.Port != 0 || gone.Host != "h" {
+			t.Errorf("P15: without the port: %+v", gone)
+		}
+	}
+}
+
+func TestP16Without(t *testing.T) {
+	both := URL{Scheme: "a", Opaque: true, OpaquePath: " x  ", HasQuery: true, Query: "q", HasFragment: true, Fragment: "f"}
+	noQuery := both.WithoutQuery()
+	noFragment := both.WithoutFragment()
+	for _, c := range []struct {
+		u    URL
+		want string
+	}{
+		{noQuery, "a: x  #f"}, {noFragment, "a: x  ?q"}, {noQuery.WithoutFragment(), "a: x"}, {noFragment.WithoutQuery(), "a: x"}, {both, "a: x  ?q#f"},
+		{URL{Scheme: "a", Opaque: true, OpaquePath: "  "}.WithoutQuery(), "a:"}, {URL{Scheme: "a", Segments: []string{"x "}}.WithoutFragment(), "a:/x "},
+	} {
+		if got := c.u.Href(); got != c.want {
+			t.Errorf("P16: %q, want %q", got, c.want)
+		}
+	}
+	if noQuery.Query != "" || noFragment.Fragment != "" {
+		t.Errorf("P16: a text is left: %+v, %+v", noQuery, noFragment)
+	}
+}

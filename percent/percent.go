@@ -31,6 +31,14 @@ const (
 	inForm         = inComponent + "!'()~"
 )
 
+// OfQuery tells the set of a query, by whether the scheme is special.
+func OfQuery(special bool) Set {
+	if special {
+		return SpecialQuery
+	}
+	return Query
+}
+
 func members(set Set) string {
 	switch set {
 	case Fragment:

@@ -54,3 +54,9 @@ func TestP3Decode(t *testing.T) {
 		}
 	}
 }
+
+func TestP5OfQuery(t *testing.T) {
+	if OfQuery(true) != SpecialQuery || OfQuery(false) != Query {
+		t.Errorf("P5: the sets of queries are %d and %d", OfQuery(true), OfQuery(false))
+	}
+}

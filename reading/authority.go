@@ -10,9 +10,6 @@ import (
 	"urls/schemes"
 )
 
-// mostPort is the greatest port.
-const mostPort = 65535
-
 // readAuthority reads name, password, host, port and path (P8).
 func readAuthority(u parts.URL, text string) (parts.URL, api.Errno) {
 	special := schemes.Special(u.Scheme)
@@ -38,7 +35,7 @@ func readAuthority(u parts.URL, text string) (parts.URL, api.Errno) {
 // its error is told.
 func readPlace(u parts.URL, place string) (parts.URL, api.Errno) {
 	special := schemes.Special(u.Scheme)
-	host, port, colon := cutPort(place)
+	host, port, colon := hosts.CutPort(place)
 	if host == "" && (special || colon) {
 		return parts.URL{}, api.ErrFail
 	}
@@ -51,32 +48,9 @@ func readPlace(u parts.URL, place string) (parts.URL, api.Errno) {
 	if port == "" {
 		return u, api.OK
 	}
-	number, ok := ascii.Number(port, 10, mostPort)
-	if !ok || number > mostPort {
+	number, ok := schemes.ReadPort(port)
+	if !ok {
 		return parts.URL{}, api.ErrFail
 	}
-	own, owned := schemes.OwnPort(u.Scheme)
-	if !owned || int(number) != own {
-		u.HasPort = true
-		u.Port = int(number)
-	}
-	return u, api.OK
-}
-
-// cutPort cuts at the first colon that is in no brackets.
-func cutPort(place string) (string, string, bool) {
-	inside := false
-	for i := 0; i < len(place); i++ {
-		switch place[i] {
-		case '[':
-			inside = true
-		case ']':
-			inside = false
-		case ':':
-			if !inside {
-				return place[:i], place[i+1:], true
-			}
-		}
-	}
-	return place, "", false
+	return u.AtPort(number), api.OK
 }

@@ -39,23 +39,11 @@ func readFileHost(u parts.URL, text string) (parts.URL, api.Errno) {
 		u.Segments = paths.Read(text, u.Scheme)
 		return u, api.OK
 	}
-	written, err := fileHost(host)
+	written, err := hosts.ReadFile(host)
 	if err != api.OK {
 		return parts.URL{}, err
 	}
 	u.Host = written
 	u.Segments = paths.Read(path, u.Scheme)
 	return u, api.OK
-}
-
-// fileHost reads a file's host: it may be empty, and localhost is.
-func fileHost(text string) (string, api.Errno) {
-	if text == "" {
-		return "", api.OK
-	}
-	written, err := hosts.Read(text, true)
-	if err != api.OK || written == "localhost" {
-		return "", err
-	}
-	return written, api.OK
 }

@@ -21,7 +21,7 @@ func Text(s string) (parts.URL, api.Errno) {
 func Against(s string, base parts.URL) (parts.URL, api.Errno) {
 	clean := points.Clean(s)
 	trimmed := trim(clean)
-	whole := withoutBreaks(trimmed)
+	whole := ascii.WithoutBreaks(trimmed)
 	ahead, fragment, hasFragment := ascii.Cut(whole, '#')
 	read, err := readAhead(ahead, hasFragment, base)
 	if err != api.OK {
@@ -34,7 +34,7 @@ func Against(s string, base parts.URL) (parts.URL, api.Errno) {
 
 // readAhead reads what is ahead of the fragment.
 func readAhead(ahead string, hasFragment bool, base parts.URL) (parts.URL, api.Errno) {
-	scheme, rest, found := cutScheme(ahead)
+	scheme, rest, found := schemes.Cut(ahead)
 	if !found && base.Opaque {
 		return againstOpaque(rest, hasFragment, base)
 	}
@@ -46,7 +46,8 @@ func readAhead(ahead string, hasFragment bool, base parts.URL) (parts.URL, api.E
 	}
 	left, query, hasQuery := ascii.Cut(rest, '?')
 	u := parts.URL{Scheme: scheme, HasQuery: hasQuery}
-	set := querySet(scheme)
+	special := schemes.Special(scheme)
+	set := percent.OfQuery(special)
 	u.Query = percent.Encode(query, set)
 	if found {
 		return withScheme(u, left, base)
@@ -74,49 +75,6 @@ func trim(s string) string {
 		end--
 	}
 	return s[start:end]
-}
-
-// withoutBreaks takes tabs, line feeds and carriage returns away.
-func withoutBreaks(s string) string {
-	out := []byte{}
-	for i := 0; i < len(s); i++ {
-		c := s[i]
-		if c != '\t' && c != '\n' && c != '\r' {
-			out = append(out, c)
-		}
-	}
-	return string(out)
-}
-
-// cutScheme answers the scheme in small letters and what is behind its colon;
-// if there is no scheme, the rest is all of s.
-func cutScheme(s string) (string, string, bool) {
-	name, rest, colon := ascii.Cut(s, ':')
-	if !colon || !isScheme(name) {
-		return "", s, false
-	}
-	return ascii.Lower(name), rest, true
-}
-
-func isScheme(name string) bool {
-	if name == "" || !ascii.Letter(name[0]) {
-		return false
-	}
-	for i := 1; i < len(name); i++ {
-		c := name[i]
-		mark := c == '+' || c == '-' || c == '.' || '0' <= c && c <= '9'
-		if !mark && !ascii.Letter(c) {
-			return false
-		}
-	}
-	return true
-}
-
-func querySet(scheme string) percent.Set {
-	if schemes.Special(scheme) {
-		return percent.SpecialQuery
-	}
-	return percent.Query
 }
 
 // withScheme reads what is left between the scheme and the query (P6).

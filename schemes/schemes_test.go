@@ -35,3 +35,33 @@ func TestSlashes(t *testing.T) {
 		}
 	}
 }
+
+func TestP5Cut(t *testing.T) {
+	for _, c := range []struct {
+		s, scheme, rest string
+		found           bool
+	}{
+		{"a:", "a", "", true}, {"aB+9-z.Q:x:y", "ab+9-z.q", "x:y", true}, {"Z:/:", "z", "/:", true},
+		{"", "", "", false}, {":", "", ":", false}, {"a", "", "a", false}, {"1a:", "", "1a:", false}, {"+a:x", "", "+a:x", false}, {"A_b:x", "", "A_b:x", false}, {" a:", "", " a:", false}, {"a :", "", "a :", false}, {"é:", "", "é:", false},
+	} {
+		scheme, rest, found := Cut(c.s)
+		if scheme != c.scheme || rest != c.rest || found != c.found {
+			t.Errorf("P5: Cut(%q) is %q, %q, %v", c.s, scheme, rest, found)
+		}
+	}
+}
+
+func TestP8ReadPort(t *testing.T) {
+	for _, c := range []struct {
+		digits string
+		port   int
+		ok     bool
+	}{
+		{"0", 0, true}, {"00080", 80, true}, {"65535", 65535, true}, {"65536", 0, false}, {"99999999999999999999999", 0, false}, {"", 0, false}, {"8x", 0, false}, {"-8", 0, false}, {" 8", 0, false}, {"a", 0, false},
+	} {
+		port, ok := ReadPort(c.digits)
+		if port != c.port || ok != c.ok {
+			t.Errorf("P8: ReadPort(%q) is %d, %v", c.digits, port, ok)
+		}
+	}
+}

@@ -3,6 +3,7 @@ package urls
 
 import (
 	"urls/api"
+	"urls/changing"
 	"urls/parts"
 	"urls/reading"
 )
@@ -77,35 +78,51 @@ func (x *URL) Origin() string {
 	return origin(x.parts)
 }
 
+// put does what all setters have in common. An error leaves the URL as it was.
+func (x *URL) put(part changing.Part, s string) api.Errno {
+	if len(s) > api.MaxIn {
+		return api.ErrLong
+	}
+	if x == nil {
+		return api.OK
+	}
+	changed, err := changing.Put(x.parts, part, s)
+	if err != api.OK {
+		return err
+	}
+	x.parts = changed
+	return api.OK
+}
+
 // SetHref is the setter Href (P14 to P16).
-func (x *URL) SetHref(s string) api.Errno { return api.OK }
+func (x *URL) SetHref(s string) api.Errno { return x.put(changing.Href, s) }
 
 // SetProtocol is the setter Protocol (P14 to P16).
-func (x *URL) SetProtocol(s string) api.Errno { return api.OK }
+func (x *URL) SetProtocol(s string) api.Errno { return x.put(changing.Protocol, s) }
 
 // SetUsername is the setter Username (P14 to P16).
-func (x *URL) SetUsername(s string) api.Errno { return api.OK }
+func (x *URL) SetUsername(s string) api.Errno { return x.put(changing.Username, s) }
 
 // SetPassword is the setter Password (P14 to P16).
-func (x *URL) SetPassword(s string) api.Errno { return api.OK }
+func (x *URL) SetPassword(s string) api.Errno { return x.put(changing.Password, s) }
 
 // SetHost is the setter Host (P14 to P16).
-func (x *URL) SetHost(s string) api.Errno { return api.OK }
+func (x *URL) SetHost(s string) api.Errno { return x.put(changing.Host, s) }
 
 // SetHostname is the setter Hostname (P14 to P16).
-func (x *URL) SetHostname(s string) api.Errno { return api.OK }
+func (x *URL) SetHostname(s string) api.Errno { return x.put(changing.Hostname, s) }
 
 // SetPort is the setter Port (P14 to P16).
-func (x *URL) SetPort(s string) api.Errno { return api.OK }
+func (x *URL) SetPort(s string) api.Errno { return x.put(changing.Port, s) }
 
 // SetPathname is the setter Pathname (P14 to P16).
-func (x *URL) SetPathname(s string) api.Errno { return api.OK }
+func (x *URL) SetPathname(s string) api.Errno { return x.put(changing.Pathname, s) }
 
 // SetSearch is the setter Search (P14 to P16).
-func (x *URL) SetSearch(s string) api.Errno { return api.OK }
+func (x *URL) SetSearch(s string) api.Errno { return x.put(changing.Search, s) }
 
 // SetHash is the setter Hash (P14 to P16).
-func (x *URL) SetHash(s string) api.Errno { return api.OK }
+func (x *URL) SetHash(s string) api.Errno { return x.put(changing.Hash, s) }
 
 // Append adds a pair (P18).
 func (x *URL) Append(n string, v string) api.Errno { return api.OK }
