@@ -123,33 +123,3 @@ func (x *URL) SetSearch(s string) api.Errno { return x.put(changing.Search, s) }
 
 // SetHash is the setter Hash (P14 to P16).
 func (x *URL) SetHash(s string) api.Errno { return x.put(changing.Hash, s) }
-
-// Append adds a pair (P18).
-func (x *URL) Append(n string, v string) api.Errno { return api.OK }
-
-// Delete takes pairs away (P18).
-func (x *URL) Delete(n string, v string, valued bool) api.Errno { return api.OK }
-
-// Set turns a pair (P18).
-func (x *URL) Set(n string, v string) api.Errno { return api.OK }
-
-// Sort puts the pairs in order (P18).
-func (x *URL) Sort() {}
-
-// Value tells the first value of a name (P19).
-func (x *URL) Value(n string) (string, bool) { return "", false }
-
-// Values tells all values of a name (P19).
-func (x *URL) Values(n string) []string { return nil }
-
-// Has tells whether there is such a pair (P19).
-func (x *URL) Has(n string, v string, valued bool) bool { return false }
-
-// Size tells how many pairs there are (P19).
-func (x *URL) Size() int { return 0 }
-
-// Text writes the pairs as a query (P19).
-func (x *URL) Text() string { return "" }
-
-// Pairs tells all pairs (P19).
-func (x *URL) Pairs() []api.Pair { return nil }
